@@ -2,7 +2,11 @@
 package kit
 
 import (
+	"strconv"
+	"strings"
+
 	"colloquy/api"
+	"colloquy/code"
 	"colloquy/start"
 )
 
@@ -50,6 +54,20 @@ func Class(w *api.World, behind, dict, size, format int) int {
 func Method(w *api.World, args, temps, prim int, code string, lits ...api.Val) int {
 	f := []api.Val{Num(args), Num(temps), Num(prim), Obj(Bytes(w, api.ClassText, code))}
 	return Plain(w, api.ClassCode, append(f, lits...)...)
+}
+
+// Code is instructions as bytes, told as names and numbers, with commas between: "int 129, send 0 1, ret".
+func Code(text string) string {
+	var l []code.Ins
+	for _, one := range strings.Split(text, ",") {
+		words := append(strings.Fields(one), "0", "0", "0")
+		a, _ := strconv.Atoi(words[1])
+		b, _ := strconv.Atoi(words[2])
+		if op := code.Op(words[0]); op > 0 {
+			l = append(l, code.Ins{Op: op, A: a, B: b})
+		}
+	}
+	return code.Put(l)
 }
 
 // Frame adds a frame that is at the beginning of a method, with what lies on its stack.
