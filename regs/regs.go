@@ -16,6 +16,16 @@ func Copy(r api.Regs) api.Regs {
 	return r
 }
 
+// Places are the places that registers have; 0, that is none, is left out.
+func Places(r api.Regs) []int {
+	l := append([]int{r.Proc, r.Frame}, r.Ready...)
+	for _, x := range r.Wait {
+		l = append(l, x.Sema, x.Proc)
+	}
+	l = append(l, r.Due...)
+	return slices.DeleteFunc(l, func(at int) bool { return at == 0 })
+}
+
 // Roots are the places that all begins at: the first things, then what the registers have, each once, in this order.
 func Roots(r api.Regs) []int {
 	var l []int
@@ -29,16 +39,7 @@ func Roots(r api.Regs) []int {
 	for at := range api.Specials {
 		add(at)
 	}
-	add(r.Proc) // 0 is there already
-	add(r.Frame)
-	for _, at := range r.Ready {
-		add(at)
-	}
-	for _, x := range r.Wait {
-		add(x.Sema)
-		add(x.Proc)
-	}
-	for _, at := range r.Due {
+	for _, at := range Places(r) {
 		add(at)
 	}
 	return l
