@@ -20,6 +20,7 @@ type message struct{ name, args int }
 
 // writer writes a random program.
 type writer struct {
+	quiet    bool // without Weak things, Final ones, and the primitives 29, 30
 	dice     Dice
 	w        *api.World
 	messages []message
@@ -31,9 +32,14 @@ type writer struct {
 }
 
 // Program is a world in which some processes run on and on, and do what there is to do, for the most part.
-func Program(dice Dice) api.World {
+func Program(dice Dice) api.World { return program(dice, false) }
+
+// Quiet is such a world without Weak things, Final ones, and the primitives 29, 30, 31.
+func Quiet(dice Dice) api.World { return program(dice, true) }
+
+func program(dice Dice, quiet bool) api.World {
 	w := start.World()
-	x := &writer{dice: dice, w: &w}
+	x := &writer{dice: dice, w: &w, quiet: quiet}
 	x.understand()
 	x.things()
 	for range 3 { // methods of the program's own, sent like others
@@ -70,6 +76,9 @@ func (x *writer) understand() {
 		x.w.L[class].F[0] = Obj(root)
 	}
 	for i, p := range prims() {
+		if x.quiet && p[0] >= 29 && p[0] <= 31 {
+			continue
+		}
 		dict := first
 		if i%2 == 0 {
 			dict = second
@@ -99,7 +108,11 @@ func (x *writer) things() {
 	w, dice := x.w, x.dice
 	for range 3 + dice(6) {
 		n := len(w.L)
-		switch dice(6) {
+		kind := dice(6)
+		if x.quiet && kind == 0 {
+			kind = 1
+		}
+		switch kind {
 		case 0:
 			Weak(w, x.some(), x.some())
 		case 1:
@@ -111,11 +124,13 @@ func (x *writer) things() {
 		default:
 			Plain(w, api.ClassArray, x.some(), x.some(), x.some())
 		}
-		w.L[n].Final = dice(4) == 0
+		w.L[n].Final = dice(4) == 0 && !x.quiet
 		x.data = append(x.data, Obj(n))
 	}
-	for _, class := range []int{api.ClassArray, api.ClassWeak, api.ClassText, api.ClassPoint, api.ClassSema} {
-		x.data = append(x.data, Obj(class))
+	for _, class := range []int{api.ClassArray, api.ClassText, api.ClassPoint, api.ClassSema, api.ClassWeak} {
+		if class != api.ClassWeak || !x.quiet {
+			x.data = append(x.data, Obj(class))
+		}
 	}
 }
 
