@@ -13,10 +13,10 @@ type Space interface {
 	Fmt(id int) int
 	Hash(id int) int
 	Size(id int) int
-	Field(id, i int) api.Val
-	SetField(id, i int, v api.Val)
-	Byte(id, i int) int
-	SetByte(id, i, v int)
+	Field(id, i int) (api.Val, bool) // false: it has no such field
+	SetField(id, i int, v api.Val) bool
+	Byte(id, i int) int // -1: it has no such byte
+	SetByte(id, i, v int) bool
 	Mark(id int) (colour int, final bool)
 	SetMark(id, colour int, final bool)
 	Make(class, format, size, hash int) bool // White, all Nil, or bytes 0; false: there is no room
@@ -44,15 +44,45 @@ func newList(w api.World) *list {
 	return s
 }
 
-func (s *list) Len() int                      { return len(s.all) }
-func (s *list) Class(id int) int              { return s.all[id].class }
-func (s *list) Fmt(id int) int                { return s.all[id].format }
-func (s *list) Hash(id int) int               { return s.all[id].hash }
-func (s *list) Size(id int) int               { return len(s.all[id].fields) + len(s.all[id].bytes) }
-func (s *list) Field(id, i int) api.Val       { return s.all[id].fields[i] }
-func (s *list) SetField(id, i int, v api.Val) { s.all[id].fields[i] = v }
-func (s *list) Byte(id, i int) int            { return int(s.all[id].bytes[i]) }
-func (s *list) SetByte(id, i, v int)          { s.all[id].bytes[i] = byte(v) }
+func (s *list) Len() int         { return len(s.all) }
+func (s *list) Class(id int) int { return s.all[id].class }
+func (s *list) Fmt(id int) int   { return s.all[id].format }
+func (s *list) Hash(id int) int  { return s.all[id].hash }
+func (s *list) Size(id int) int  { return len(s.all[id].fields) + len(s.all[id].bytes) }
+
+func (s *list) Field(id, i int) (api.Val, bool) {
+	x := &s.all[id]
+	if i < 0 || i >= len(x.fields) {
+		return api.Val{}, false
+	}
+	return x.fields[i], true
+}
+
+func (s *list) SetField(id, i int, v api.Val) bool {
+	x := &s.all[id]
+	if i < 0 || i >= len(x.fields) {
+		return false
+	}
+	x.fields[i] = v
+	return true
+}
+
+func (s *list) Byte(id, i int) int {
+	x := &s.all[id]
+	if i < 0 || i >= len(x.bytes) {
+		return -1
+	}
+	return int(x.bytes[i])
+}
+
+func (s *list) SetByte(id, i, v int) bool {
+	x := &s.all[id]
+	if i < 0 || i >= len(x.bytes) {
+		return false
+	}
+	x.bytes[i] = byte(v)
+	return true
+}
 
 func (s *list) Mark(id int) (int, bool) { return s.all[id].colour, s.all[id].final }
 

@@ -10,10 +10,9 @@ import (
 
 // Set sets a field.
 func (m *Mem) Set(id, i int, v api.Val) bool {
-	if !m.hasField(id, i) || !m.May(v) || m.unmakes(id, i, v) {
+	if !m.Has(id) || !m.May(v) || m.unmakes(id, i, v) || !m.space.SetField(id, i, v) {
 		return false
 	}
-	m.space.SetField(id, i, v)
 	if v.Obj {
 		m.meet(v.N)
 	}
@@ -22,7 +21,7 @@ func (m *Mem) Set(id, i int, v api.Val) bool {
 
 // unmakes tells whether a class would be none any more, were a field of it v.
 func (m *Mem) unmakes(id, i int, v api.Val) bool {
-	if !m.IsClass(id) {
+	if i != image.SizeField && i != image.FmtField || !m.IsClass(id) {
 		return false
 	}
 	size, format := m.Get(id, image.SizeField), m.Get(id, image.FmtField)
@@ -46,11 +45,7 @@ func (m *Mem) meet(id int) {
 
 // SetByte sets a byte.
 func (m *Mem) SetByte(id, i, v int) bool {
-	if !m.hasByte(id, i) {
-		return false
-	}
-	m.space.SetByte(id, i, v&0xff)
-	return true
+	return m.Has(id) && m.space.SetByte(id, i, v&0xff)
 }
 
 // Make makes an instance of a class.
@@ -135,15 +130,12 @@ func (m *Mem) Owners(id int) []int {
 
 // owns tells whether a thing has a field that is another one.
 func (m *Mem) owns(owner, id int) bool {
-	if m.space.Fmt(owner) == api.Bytes {
-		return false
-	}
-	for i := range m.space.Size(owner) {
-		if m.space.Field(owner, i) == (api.Val{Obj: true, N: id}) {
-			return true
+	for i := 0; ; i++ {
+		v, ok := m.space.Field(owner, i)
+		if !ok || v == (api.Val{Obj: true, N: id}) {
+			return ok
 		}
 	}
-	return false
 }
 
 // tell is all that is not dead of which a function says yes, from the lowest place on.

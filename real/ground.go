@@ -51,18 +51,26 @@ func (g *ground) value(w uint32) api.Val {
 	return api.Val{Obj: true, N: g.id(word.RefOf(w))}
 }
 
-func (g *ground) Len() int                { return len(g.at) }
-func (g *ground) Class(id int) int        { return g.id(g.heap.Class(g.at[id])) }
-func (g *ground) Fmt(id int) int          { return g.heap.Fmt(g.at[id]) }
-func (g *ground) Hash(id int) int         { return g.heap.Hash(g.at[id]) }
-func (g *ground) Size(id int) int         { return g.heap.Size(g.at[id]) }
-func (g *ground) Field(id, i int) api.Val { return g.value(g.heap.Field(g.at[id], i)) }
-func (g *ground) Byte(id, i int) int      { return g.heap.Byte(g.at[id], i) }
-func (g *ground) SetByte(id, i, v int)    { g.heap.SetByte(g.at[id], i, v) }
+func (g *ground) Len() int         { return len(g.at) }
+func (g *ground) Class(id int) int { return g.id(g.heap.Class(g.at[id])) }
+func (g *ground) Fmt(id int) int   { return g.heap.Fmt(g.at[id]) }
+func (g *ground) Hash(id int) int  { return g.heap.Hash(g.at[id]) }
+func (g *ground) Size(id int) int  { return g.heap.Size(g.at[id]) }
 
-func (g *ground) SetField(id, i int, v api.Val) {
-	g.heap.SetField(g.at[id], i, load.Word(v, g.at))
+func (g *ground) Field(id, i int) (api.Val, bool) {
+	w := g.heap.Field(g.at[id], i)
+	if w == word.Ref(0) { // no object's place: there is no such field
+		return api.Val{}, false
+	}
+	return g.value(w), true
 }
+
+func (g *ground) SetField(id, i int, v api.Val) bool {
+	return g.heap.SetField(g.at[id], i, load.Word(v, g.at))
+}
+
+func (g *ground) Byte(id, i int) int        { return g.heap.Byte(g.at[id], i) }
+func (g *ground) SetByte(id, i, v int) bool { return g.heap.SetByte(g.at[id], i, v) }
 
 func (g *ground) Mark(id int) (int, bool) { return g.heap.Mark(g.at[id]) }
 
