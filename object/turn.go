@@ -53,8 +53,8 @@ func (m *Mem) Make(class, n int) (int, bool) {
 	if !m.IsClass(class) || n < 0 || m.last >= api.MaxObjects {
 		return 0, false
 	}
-	format := m.Get(class, image.FmtField).N
-	own, most := m.Get(class, image.SizeField).N, api.MaxFields
+	most := api.MaxFields
+	own, format := m.Shape(class)
 	if format == api.Bytes {
 		own, most = 0, api.MaxBytes
 	}

@@ -2,7 +2,6 @@ package thing
 
 import (
 	"colloquy/api"
-	"colloquy/image"
 	"colloquy/object"
 	"colloquy/plane"
 )
@@ -46,7 +45,7 @@ func parts(m *object.Mem, v api.Val) (int, int, bool) {
 
 // newPoint is a new point, if ClassPoint makes such.
 func newPoint(m *object.Mem, x, y int) (api.Val, bool) {
-	if m.Get(api.ClassPoint, image.FmtField).N != api.Plain || m.Get(api.ClassPoint, image.SizeField).N != pointSize {
+	if size, format := m.Shape(api.ClassPoint); size != pointSize || format != api.Plain {
 		return api.Val{}, false
 	}
 	made, ok := m.Make(api.ClassPoint, 0)
