@@ -179,6 +179,22 @@ func TestFieldsAndBytes(t *testing.T) {
 	}
 }
 
+// Which words are free: those of no object.
+func TestFree(t *testing.T) {
+	h := heap.New(12)
+	h.Make(api.Plain, 1, 0, 0)
+	h.Make(api.Plain, 0, 0, 0)
+	h.Drop(1)
+	for at := -2; at < 15; at++ {
+		if want := at >= 1 && at <= 4 || at >= 8 && at <= 12; h.Free(at) != want {
+			t.Errorf("Free(%d) is %v", at, !want)
+		}
+	}
+	if h.Free(math.MinInt) || h.Free(math.MaxInt) {
+		t.Error("a word beyond is free")
+	}
+}
+
 // P5.2: classes and marks.
 func TestClassAndMark(t *testing.T) {
 	h := heap.New(60)

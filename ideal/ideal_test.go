@@ -141,6 +141,10 @@ func TestWork(t *testing.T) {
 	if m.Mem().Get(api.SemaDue, 0) != num(1) {
 		t.Error("SemaDue is not signalled, or not once")
 	}
+	m.Work(5)
+	if m.Mem().Get(api.SemaDue, 0) != num(1) {
+		t.Error("SemaDue is signalled where nothing became due")
+	}
 }
 
 // P20.1: ticks and bytes to read.
@@ -363,6 +367,16 @@ func TestSend(t *testing.T) {
 		t.Error("no more may be made")
 	}
 	ends(t, "full", m, api.Full)
+}
+
+// P20.2: what is found, but is no method, has no primitive.
+func TestNoMethod(t *testing.T) {
+	r := newRig("send 0 0", 0, 60, num(5))
+	r.L[r.method].F[1] = num(9)
+	m := made(t, r.World)
+	if m.Step() != api.Broken || !slices.Equal(stack(m.Mem(), r.frame), []api.Val{num(5)}) {
+		t.Error("a primitive is tried")
+	}
 }
 
 // P20.2: messages to what is behind a class.
@@ -636,6 +650,11 @@ func TestFork(t *testing.T) {
 	r = rigged(none, num(1))
 	r.L[api.ClassProc].F[3] = num(1)
 	own("ClassProc", r, 1)
+	r = rigged(none, num(1))
+	r.L[api.ClassFrame].F[3] = num(23)
+	if m := made(t, r.World); m.Step() != api.Full || m.Mem().Len() != r.next || len(m.Mem().Regs().Ready) != 0 {
+		t.Error("ClassFrame")
+	}
 }
 
 // P20.3: 53 to 55.

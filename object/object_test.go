@@ -9,6 +9,7 @@ import (
 	"testing"
 
 	"colloquy/api"
+	"colloquy/cycle"
 	"colloquy/image"
 	"colloquy/kit"
 	"colloquy/object"
@@ -504,6 +505,47 @@ func TestColoursStay(t *testing.T) {
 	m.Owners(26)
 	if m.Colour(id) != 0 || len(popped(m)) != 0 {
 		t.Error("shaded while Idle")
+	}
+}
+
+// P10.1: what is dead, as a collection goes by.
+func TestPhases(t *testing.T) {
+	w := start.World()
+	kit.Plain(&w, api.ClassArray) // 23: lost
+	kit.Plain(&w, api.ClassArray) // 24: kept
+	w.R.Frame = 24
+	m := made(t, w, 50)
+	if len(m.World().Dead) != 0 {
+		t.Error("a list of what is dead, where none was given")
+	}
+	for phase := range 3 {
+		if m.Phase() != phase {
+			t.Fatalf("phase %d", m.Phase())
+		}
+		for m.Phase() == phase {
+			cycle.Work(m, 1)
+		}
+		if got := m.World(); len(got.Dead) != 25 || got.Dead[23] != (phase > 0) || got.Dead[24] || !image.Check(got) {
+			t.Errorf("phase %d: dead %v", phase, got.Dead)
+		}
+		if m.Has(23) != (phase == 0) || !m.Has(24) {
+			t.Errorf("phase %d: %v, %v", phase, m.Has(23), m.Has(24))
+		}
+		if phase == api.Sweep && m.Colour(24) != 0 || phase == api.Marks && m.Colour(24) != 2 {
+			t.Errorf("phase %d: colour %d", phase, m.Colour(24))
+		}
+	}
+	for _, colour := range []int{-1, 3} {
+		if m.Paint(24, colour); m.Colour(24) != 0 {
+			t.Errorf("colour %d", colour)
+		}
+	}
+	m.Watch(24)
+	if m.Unwatch(24); m.Thing(24).Final {
+		t.Error("watched still")
+	}
+	if m.Sweep(); m.Phase() != api.Idle {
+		t.Error("nothing is to be swept")
 	}
 }
 

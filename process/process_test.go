@@ -105,11 +105,15 @@ func TestIs(t *testing.T) {
 	}
 	w := small()
 	w.L[low].Fmt = api.Weak
+	if process.Is(made(t, w, api.Regs{}), low) {
+		t.Error("a Weak process")
+	}
+	w = small()
 	w.L[f1].Fmt = api.Weak
 	w.L[f2].F[3] = none // like a frame is enough
 	m := made(t, w, api.Regs{})
 	if process.Is(m, low) || process.Is(m, high) || !process.Is(m, mid) {
-		t.Error("Weak")
+		t.Error("a Weak frame")
 	}
 	for _, id := range []int{0, -1, next, empty, math.MaxInt, math.MinInt} {
 		if process.Is(m, id) || process.Level(m, id) != 0 || process.IsSema(m, id) {
@@ -183,8 +187,8 @@ func TestReady(t *testing.T) {
 
 // P19.2: the first one that is ready goes on.
 func TestTake(t *testing.T) {
-	m := made(t, small(), api.Regs{Proc: high, Frame: f2, Ready: []int{low, mid2, empty, sema}, Wait: []api.Wait{{Sema: sema, Proc: mid}}, Out: "o", Exit: 3})
-	for _, want := range []api.Regs{{Proc: low, Frame: f1, Ready: []int{mid2, empty, sema}}, {Proc: mid2, Ready: []int{empty, sema}}, {Proc: empty, Ready: []int{sema}}, {Proc: sema}} {
+	m := made(t, small(), api.Regs{Proc: high, Frame: f2, Ready: []int{low, empty, mid2, sema}, Wait: []api.Wait{{Sema: sema, Proc: mid}}, Out: "o", Exit: 3})
+	for _, want := range []api.Regs{{Proc: low, Frame: f1, Ready: []int{empty, mid2, sema}}, {Proc: empty, Ready: []int{mid2, sema}}, {Proc: mid2, Ready: []int{sema}}, {Proc: sema}} {
 		want.Wait = []api.Wait{{Sema: sema, Proc: mid}}
 		if !process.Take(m) {
 			t.Error("Take")
@@ -219,7 +223,7 @@ func TestYield(t *testing.T) {
 		t.Error("Yield alone")
 	}
 	regs(t, "Yield alone", m, api.Regs{Proc: low, Frame: f2})
-	for _, r := range []api.Regs{{Proc: 0, Frame: f1, Ready: []int{low}}, {Proc: sema, Frame: f1, Ready: []int{low}}, {Proc: low, Frame: f1, Ready: slices.Repeat([]int{mid}, 20)}} {
+	for _, r := range []api.Regs{{Proc: 0, Frame: f1, Ready: []int{low}}, {Proc: sema, Frame: f1, Ready: []int{low}}, {Proc: low, Frame: f2, Ready: slices.Repeat([]int{mid}, 20)}} {
 		m := made(t, small(), r)
 		refused(t, "Yield", m, func() bool { return process.Yield(m) })
 	}
@@ -331,6 +335,9 @@ func TestFork(t *testing.T) {
 		t.Errorf("%d, %v: %v", id, ok, m.Thing(next))
 	}
 	regs(t, "Fork", m, api.Regs{Ready: []int{mid, next, low}})
+	if id, ok := process.Fork(made(t, small(), api.Regs{}), f1, 1); id != next || !ok {
+		t.Error("of the lowest level")
+	}
 	if id, ok := process.Fork(m, 0, 9); id != next+1 || !ok || m.Regs().Ready[0] != next+1 {
 		t.Error("of Nil")
 	}

@@ -175,6 +175,18 @@ func TestEnter(t *testing.T) {
 	}
 }
 
+// As many arguments as there may be.
+func TestEight(t *testing.T) {
+	w := small()
+	method := kit.Method(&w, 8, 8, 0, "")
+	many := slices.Repeat([]api.Val{num(4)}, 9)
+	f := kit.Frame(&w, 0, zero, num(1), many...)
+	m := made(t, w)
+	if to, how := send.Enter(m, f, method, 8); to != f+1 || how != send.Goes || !is(m, f) || !is(m, to, many[:8]...) {
+		t.Errorf("%d, %d", to, how)
+	}
+}
+
 // P16.1: blocks.
 func TestCall(t *testing.T) {
 	called := func(w *api.World) { w.L[inner].F[frame.Slots+1] = obj(block) }

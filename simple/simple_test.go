@@ -202,6 +202,13 @@ func TestPops(t *testing.T) {
 			t.Errorf("setfield of %v", v)
 		}
 	}
+	first := start.World() // the lowest place that may be set is Specials
+	kit.Plain(&first, api.ClassArray, num(1))
+	method := kit.Method(&first, 0, 0, 0, "")
+	f := kit.Frame(&first, 0, method, obj(api.Specials), num(5))
+	if m := made(t, first); !simple.Do(m, f, ins("setfield", 0, 0)) || m.Get(api.Specials, 0) != num(5) {
+		t.Error("setfield of the first thing behind the first ones")
+	}
 	w := small()
 	class := kit.Class(&w, 0, 0, 0, api.Plain)
 	w.L[inner].F[frame.Self] = obj(class)

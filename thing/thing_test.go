@@ -184,6 +184,7 @@ func TestElements(t *testing.T) {
 	}
 	fails(t, m, 25, obj(class), num(5), num(9)) // object's Set says no
 	gives(t, m, num(2), 25, obj(class), num(5), num(2))
+	gives(t, m, num(6), 25, obj(api.Specials), num(1), num(6))
 	fails(t, m, 25, obj(api.SemaDue), num(1), num(1))
 	fails(t, m, 25, obj(api.NameLost), num(1), num(1))
 }
