@@ -259,6 +259,33 @@ func TestWeakAndFinal(t *testing.T) {
 	}
 }
 
+// P11.1: the roots are looked at once more in the end: what registers have taken meanwhile, and what that leads to, stays.
+func TestLateRoots(t *testing.T) {
+	for i, late := range []api.Regs{{Proc: 24}, {Frame: 24}, {Ready: []int{24}}, {Wait: []api.Wait{{Sema: 24, Proc: 25}}}, {Wait: []api.Wait{{Sema: 25, Proc: 24}}}, {Due: []int{24}}} {
+		w := start.World()
+		kit.Plain(&w, api.ClassArray)          // 23
+		kit.Plain(&w, api.ClassArray, obj(23)) // 24
+		kit.Plain(&w, api.ClassArray, obj(24)) // 25
+		kit.Weak(&w, obj(23), obj(24))         // 26
+		w.R.Frame = 25
+		w.R.Due = []int{26}
+		m := made(t, w, 50)
+		work(t, m, 1)
+		late.Due = append(late.Due, 26)
+		m.SetRegs(late)
+		m.Set(25, 0, none)
+		if m.Colour(24) != 0 || m.Colour(23) != 0 {
+			t.Fatal("shaded already")
+		}
+		for m.Phase() == api.Marks {
+			work(t, m, 1)
+		}
+		if !m.Has(24) || !m.Has(23) || m.Get(26, 0) != obj(23) || m.Get(26, 1) != obj(24) {
+			t.Errorf("registers %d: lost", i)
+		}
+	}
+}
+
 // P11.1: what is swept; what is made meanwhile is not.
 func TestSweep(t *testing.T) {
 	w := start.World()

@@ -351,6 +351,16 @@ func TestTemps(t *testing.T) {
 	if _, ok := frame.Temp(m, inner, 1, 0); ok {
 		t.Error("of a home that is no frame")
 	}
+	w := small() // nor is there a way on from there
+	b := kit.Block(&w, kit.Frame(&w, 0, method, none), 0, 0, 0)
+	w.L[home].F[frame.Block] = obj(b)
+	if _, ok := frame.Temp(made(t, w), inner, 2, 0); !ok {
+		t.Error("two out")
+	}
+	w.L[home].F[frame.Method] = none
+	if _, ok := frame.Temp(made(t, w), inner, 2, 0); ok {
+		t.Error("of a home behind what is no frame")
+	}
 }
 
 // P14.3: at most eight homes out.

@@ -70,7 +70,7 @@ func TestFind(t *testing.T) {
 		name[i] = kit.Bytes(&w, api.ClassName, "n") // 23 to 28
 	}
 	top := kit.Plain(&w, api.ClassArray, obj(name[0]), obj(5), obj(name[1]), obj(6), num(3), obj(8), obj(name[2]), num(7), obj(name[1]), obj(7), obj(name[5]))
-	low := kit.Plain(&w, api.ClassArray, none, obj(name[0]), obj(name[0]), obj(9), obj(name[3]), obj(0))
+	low := kit.Plain(&w, api.ClassArray, none, obj(name[0]), obj(name[0]), obj(9), obj(name[3]), obj(0), obj(name[1]))
 	super := kit.Class(&w, 0, top, 0, api.Plain)
 	class := kit.Class(&w, super, low, 0, api.Plain)
 	weakDict := kit.Class(&w, super, kit.Weak(&w, obj(name[0]), obj(11)), 0, api.Plain)
@@ -93,7 +93,7 @@ func TestFind(t *testing.T) {
 		{super, 5, 0, false},       // a second one
 		{super, 3, 0, false},       // a number
 		{class, name[0], 9, true},
-		{class, name[1], 6, true},
+		{class, name[1], 6, true}, // a first one without a second is no pair
 		{class, name[2], 0, false},
 		{class, name[3], 0, true}, // Nil is a thing
 		{class, 0, name[0], true},

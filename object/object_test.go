@@ -348,6 +348,12 @@ func TestBecome(t *testing.T) {
 	if !image.Check(m.World()) || m.Colour(24) != 0 {
 		t.Error("the world")
 	}
+	w := start.World()
+	kit.Plain(&w, api.ClassArray, num(1))
+	kit.Plain(&w, api.ClassArray, num(2))
+	if m = made(t, w, 5); !m.Become(api.Specials, api.Specials+1) || m.Get(api.Specials, 0) != num(2) {
+		t.Error("the first thing behind the first ones")
+	}
 }
 
 // P10.4: what may not become another one.
@@ -461,7 +467,7 @@ func TestMarks(t *testing.T) {
 		t.Errorf("stored: %v", got)
 	}
 	id, _ := m.Make(23, 0)
-	if got := popped(m); !slices.Equal(got, []int{23}) || m.Colour(id) != 2 {
+	if got := popped(m); !slices.Equal(got, []int{23}) || m.Colour(id) != 2 || m.Thing(id).Final {
 		t.Errorf("made: %v, colour %d", got, m.Colour(id))
 	}
 	m.Make(24, 0) // no class: refused

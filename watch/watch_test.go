@@ -118,6 +118,22 @@ func TestNotAsked(t *testing.T) {
 	}
 }
 
+// P24.1: what is lost while it sweeps is not dead.
+func TestLostNotDead(t *testing.T) {
+	m := small(t)
+	for m.Phase() != api.Sweep {
+		m.Work(1)
+	}
+	m.Heap().SetField(m.At(holds+1), 0, word.Int(0))
+	if !watch.Whole(m) {
+		t.Error("not whole")
+	}
+	m.Heap().SetField(m.At(kept+1), 0, 0)
+	if watch.Whole(m) {
+		t.Error("whole")
+	}
+}
+
 // P24.1: White ones in Black ones.
 func TestTight(t *testing.T) {
 	marked := func() *real.Machine {
