@@ -103,9 +103,6 @@ type lifted struct {
 	bytes                       []int
 }
 
-// words is how many words it has behind the first three.
-func (x lifted) words() int { return len(x.fields) + (len(x.bytes)+3)/4 }
-
 // lift takes an object out of the heap.
 func (g *ground) lift(id int) lifted {
 	at := g.at[id]
@@ -135,19 +132,14 @@ func (g *ground) lay(id int, x lifted) {
 	g.at[id] = at
 }
 
-// Become takes both out and lays the greater one first: whichever words free takes for that, there is room for the smaller one, too. Then all that led to either is told anew.
+// Become takes both out and lays each anew. There is room: the first one takes the shortest run of words that has as many, so one that is long enough for the other is left. Then all that led to either is told anew.
 func (g *ground) Become(a, b int) {
 	from := [2]uint32{word.Ref(g.at[a]), word.Ref(g.at[b])}
 	x, y := g.lift(a), g.lift(b)
 	x.hash, y.hash = y.hash, x.hash
 	x.colour, y.colour = y.colour, x.colour
-	if x.words() > y.words() {
-		g.lay(b, x)
-		g.lay(a, y)
-	} else {
-		g.lay(a, y)
-		g.lay(b, x)
-	}
+	g.lay(a, y)
+	g.lay(b, x)
 	to := [2]uint32{word.Ref(g.at[a]), word.Ref(g.at[b])}
 	if from != to {
 		g.redirect(from, to)

@@ -146,6 +146,21 @@ func TestFull(t *testing.T) {
 	}
 }
 
+// P23.1: the last thing that may be made.
+func TestLast(t *testing.T) {
+	w := looped("array 0, pop")
+	w.Last = api.MaxObjects - 1
+	m := made(t, w, 1000, 5)
+	if m.Step() != api.Runs || m.At(api.MaxObjects) == 0 || m.Heap().Hash(m.At(api.MaxObjects)) != api.MaxObjects {
+		t.Error("the last one")
+	}
+	m.Step()
+	m.Step()
+	if m.Step() != api.Full {
+		t.Error("one more")
+	}
+}
+
 // P23.1: of a primitive that would make it, too; its method's own code does not run.
 func TestFullPrimitive(t *testing.T) {
 	for _, x := range []struct {
@@ -251,6 +266,16 @@ func (b both) same(t *testing.T) {
 	w, ok := b.real.World()
 	if !ok || !reach.Same(w, b.ideal.World()) {
 		t.Fatal("not the same world")
+	}
+	mem := b.ideal.Mem()
+	for id, x := range b.ideal.World().L { // what nothing leads to any more, too
+		at := b.real.At(x.Hash)
+		if mem.Has(id) != (at != 0) {
+			t.Fatalf("thing %d is at %d", id, at)
+		}
+		if colour, final := b.real.Heap().Mark(at); at != 0 && (colour != mem.Colour(id) || final != x.Final || b.real.Heap().Fmt(at) != x.Fmt) {
+			t.Fatalf("thing %d has colour %d, %v", id, colour, final)
+		}
 	}
 }
 

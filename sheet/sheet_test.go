@@ -161,18 +161,35 @@ func TestRun(t *testing.T) {
 
 // P28.3: how much lines say together.
 func TestMost(t *testing.T) {
-	// 2000 steps an event, four of each hundred tell: MaxText bytes in the end
-	text := program + strings.Repeat("run 1000 5 2000 0 11\n", 200)
-	got, err := sheet.Run(text)
-	line := len("0 0 22000 ") + 2*api.MaxText + 1
-	count := (1<<20 - 3) / line
-	if err != api.OK || len(got) != 3+count*line || strings.Count(got, "\n") != 1+count {
-		t.Errorf("%d bytes, %d lines, error %d", len(got), strings.Count(got, "\n"), err)
+	const most = 1 << 20
+	text := program + "code 11 self 0 0" + strings.Repeat(" int 193 0 send 0 1", 28) + " pop 0 0 jump 0 0\nset 28 3 @31\n"
+	said := "ok\n"
+	one := "0 0 8631 " + strings.Repeat("41", api.MaxText) + "\n"
+	for len(said)+len(one) <= most {
+		text += "run 1000 5 137 0 63\n"
+		said += one
+	}
+	says := func(what, text, want string) {
+		t.Helper()
+		if got, err := sheet.Run(text); err != api.OK || got != want {
+			t.Errorf("%s: %d bytes, not %d, error %d", what, len(got), len(want), err)
+		}
 	}
 	// behind the line that would say more nothing is said, be it short
-	if more, _ := sheet.Run(text + "check\nxx\n"); more != got {
-		t.Error("it does not end")
+	says("a long line more", text+"run 1000 5 137 0 63\nx\n", said)
+	// up to the last byte that may be
+	for (most-len(said))%8 != 0 {
+		text += "check\n"
+		said += "ok\n"
 	}
+	for len(said) < most {
+		text += "x\n"
+		said += "error 7\n"
+	}
+	if len(said) != most {
+		t.Fatalf("%d bytes", len(said))
+	}
+	says("a short line more", text+"#\nset 22 0 1\ncheck\nx\n", said)
 }
 
 // P28.3: a sheet cut behind a line says the beginning of what the whole says.
