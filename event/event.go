@@ -3,8 +3,8 @@ package event
 
 import "colloquy/api"
 
-// Most is how many events are looked at.
-const Most = 1000
+// most is how many events are looked at.
+const most = 1000
 
 // Machine is a machine to which events may happen.
 type Machine interface {
@@ -15,8 +15,8 @@ type Machine interface {
 	How() int
 }
 
-// First are the first events, as many as are looked at.
-func First(l []api.Event) []api.Event { return l[:min(len(l), Most)] }
+// Count is how many of some events are looked at: the first ones.
+func Count(l []api.Event) int { return min(len(l), most) }
 
 // Do lets an event happen: how many steps were done, and how many units.
 func Do(m Machine, e api.Event) (int, int) {

@@ -2,6 +2,7 @@
 package kit
 
 import (
+	"slices"
 	"strconv"
 	"strings"
 
@@ -32,12 +33,12 @@ func Add(w *api.World, t api.Thing) int {
 
 // Plain adds a thing with fields.
 func Plain(w *api.World, class int, f ...api.Val) int {
-	return Add(w, api.Thing{Class: class, Fmt: api.Plain, F: f})
+	return Add(w, api.Thing{Class: class, Fmt: api.Plain, F: slices.Clone(f)})
 }
 
 // Weak adds a thing with fields that keep nothing.
 func Weak(w *api.World, f ...api.Val) int {
-	return Add(w, api.Thing{Class: api.ClassWeak, Fmt: api.Weak, F: f})
+	return Add(w, api.Thing{Class: api.ClassWeak, Fmt: api.Weak, F: slices.Clone(f)})
 }
 
 // Bytes adds a thing with bytes.
